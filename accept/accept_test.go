@@ -173,8 +173,38 @@ func TestP25_1Crowded(t *testing.T) {
 	third := "Rule T 1900 only - Jul 1 0 0 -\nRule T 1901 only - Jul 1 0 1:00 -\nRule T 1902 only - Jul 1 0 2:00 -\n"
 	expect(t, "120 pairs", read(t, third+one), 0, 0, 0, api.OK)
 	expect(t, "121 pairs", read(t, third+"Rule T 1903 only - Jul 1 0 3:00 -\n"+one), api.InZones, 1, 0, api.ErrMany)
+	// The sum of offset and save counts, which is the same one in many eras here; differences would be too many.
+	var sets strings.Builder
+	for k := 1; k < 60; k++ {
+		fmt.Fprintf(&sets, "Rule R%d 1900 only - Jul 1 0 0 -\n", k)
+		fmt.Fprintf(&sets, "Rule R%d 1901 only - Jul 1 0 0:%02d:%02d -\n", k, (100-k)/60, (100-k)%60)
+		fmt.Fprintf(&sets, "Rule R%d 1902 only - Jul 1 0 0:%02d:%02d -\n", k, (200-k)/60, (200-k)%60)
+	}
+	expect(t, "sums", read(t, sets.String()+crowd(60, func(k int) string {
+		if k == 0 {
+			return "0 - ABC"
+		}
+		return fmt.Sprintf("0:00:%02d R%d ABC", k, k)
+	})), 0, 0, 0, api.OK)
 	// Equal pairs count once.
 	expect(t, "equal", read(t, crowd(60, func(i int) string { return fmt.Sprintf("0:00:%02d - ABC", i%7) })), 0, 0, 0, api.OK)
+}
+
+func TestP25_1Limits(t *testing.T) {
+	var b strings.Builder
+	for i := range api.MaxRules / 2 {
+		fmt.Fprintf(&b, "Rule R%d 1990 only - Jul 1 0 0 -\nRule R%d 1991 only - Jul 1 0 1:00 -\n", i, i)
+	}
+	for i := range api.MaxZones {
+		fmt.Fprintf(&b, "Zone Z%d 0 - GMT\n", i)
+	}
+	for i := range api.MaxLinks {
+		fmt.Fprintf(&b, "Link Z0 L%d\n", i)
+	}
+	for i := range api.MaxRules / 2 {
+		fmt.Fprintf(&b, "Shift R%d\n", i)
+	}
+	expect(t, "limits", read(t, b.String()), 0, 0, 0, api.OK)
 }
 
 func TestP25_2In(t *testing.T) {

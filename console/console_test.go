@@ -79,7 +79,7 @@ func TestP47_1Lines(t *testing.T) {
 		"pack keep A  B", "error 5\n", "pack all ", "error 5\n", "pack x", "error 5\n", "pack all all", "error 5\n", "pack keep all", vanguard, " ", "error 5\n", " names", "error 5\n", "Names", "error 5\n", "names\n", "error 5\n", "+x\n", "error 5\n", "\n", "error 5\n", "#\n", "",
 		"#"+strings.Repeat("x", 1000), "", "+"+strings.Repeat("x", 400), "error 6\n", strings.Repeat("x", 401), "error 6\n", strings.Repeat("x", 400), "error 5\n", strings.Repeat("\n", 401), "error 6\n", "", "", "show", vanguard)
 	say(t, c, "text 2", "ok\n", "show", "none\n", "names", "none\n", "report main", "none\n", "translate main", "none\n", "take main", "ok\n", "show", "none\n", "+", "ok\n", "show", "\n", "translate main", "none\n", "+#", "ok\n", "show", "\n#\n", "take main", "ok\n", "show", "none\n",
-		"+Zone C 1 - CET", "ok\n", "pack all", strings.Replace(vanguard, "Link", "Zone C 1:00 - CET\nLink", 1), "pack", vanguard, "pack keep X", vanguard, "pack keep X C", strings.Replace(vanguard, "Link", "Zone C 1:00 - CET\nLink", 1),
+		"+Zone C 1 - CET", "ok\n", "pack all", strings.Replace(vanguard, "Link", "Zone C 1:00 - CET\nLink", 1), "pack", vanguard, "pack keep X", vanguard, "pack keep C", strings.Replace(vanguard, "Link", "Zone C 1:00 - CET\nLink", 1), "pack keep X C", strings.Replace(vanguard, "Link", "Zone C 1:00 - CET\nLink", 1),
 		"+x", "ok\n", "pack", "fault 2 2 8\n", "names", "fault 2 2 8\n", "at A 0", "fault 2 2 8\n", "translate main", "fault 2 2 8\n", "compile A 2", "fault 2 2 8\n", "take main", "fault 2 2 8\n", "report main", "fault 2 2 8\n",
 		"text 0", "ok\n", "pack", "fault 2 2 8\n", "reset", "ok\n", "show", "none\n", "pack", "none\n", "text 2", "ok\n", "show", "none\n")
 	// A line of 400 bytes is said.

@@ -58,7 +58,7 @@ func TestP38_1Date(t *testing.T) {
 		}
 	}
 	for i, change := range []func(*api.Rule){
-		func(r *api.Rule) { r.Month = 0 }, func(r *api.Rule) { r.Month = 13 }, func(r *api.Rule) { r.Day.Kind = 0 }, func(r *api.Rule) { r.Day.Kind = 5 }, func(r *api.Rule) { r.Day.Week = 1 },
+		func(r *api.Rule) { r.Month = 0 }, func(r *api.Rule) { r.Month = 13 }, func(r *api.Rule) { r.Month, r.Day = 0, api.Day{Kind: api.DayLast} }, func(r *api.Rule) { r.Month, r.Day = 13, api.Day{Kind: api.DayLast} }, func(r *api.Rule) { r.Day.Kind = 0 }, func(r *api.Rule) { r.Day.Kind = 5 }, func(r *api.Rule) { r.Day.Week = 1 },
 		func(r *api.Rule) { r.At.Base = 3 }, func(r *api.Rule) { r.At.Sec = 604800 }, func(r *api.Rule) { r.To++ },
 	} {
 		r := rule("max - Mar 1 0")

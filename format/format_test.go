@@ -20,7 +20,7 @@ var kinds = [][]string{
 	},
 	{"CET", "abc", "GMTGMT", "XyZ"},
 	{"CET/CEST", "abc/ABCDEF"},
-	{"E%sT", "%s", "%sABCDE", "ABC%sDE", "ABCDE%s"},
+	{"E%sT", "%s", "AZ%saz", "%sABCDE", "ABC%sDE", "ABCDE%s"},
 	{"%z"},
 	{"+05", "-03/-02", "+00", "-0330", "+000001/-235959", "+05/+05"},
 }

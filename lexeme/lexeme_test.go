@@ -44,7 +44,7 @@ func TestP5_2Fields(t *testing.T) {
 	longest := strings.Repeat("x", api.MaxLine)
 	for line, want := range map[string][]string{
 		"Rule  X 1 # y": {"Rule", "X", "1"}, `"a b"c ""`: {"a bc", ""}, "  # x": nil, "": nil, "a#\x07": {"a"},
-		`a"b c"d`: {"ab cd"}, "\ta\t \tb\t": {"a", "b"}, `"#" #`: {"#"}, `""""`: {""}, `a""b`: {"ab"}, "a#b c": {"a"},
+		`a"b c"d`: {"ab cd"}, "\ta\t \tb\t": {"a", "b"}, "a\tb": {"a", "b"}, `"#" #`: {"#"}, `""""`: {""}, `a""b`: {"ab"}, "a#b c": {"a"},
 		`""#`: {""}, `"" ""`: {"", ""}, "!~": {"!~"}, "#\n\xff": nil, longest: {longest}, `a "b"#"`: {"a", "b"}, `" "`: {" "},
 	} {
 		if l, e := Fields(line); !slices.Equal(l, want) || e != api.OK {

@@ -46,7 +46,7 @@ func TestP36_1Check(t *testing.T) {
 		{mainText, backwardText, backzoneText, 0, 0, 0, 0, api.OK}, {"", "", "", 0, 0, 0, 0, api.OK},
 		{mainText + "Link X Y\n", setR, backzoneText, 0, api.InLinks, 1, 0, api.ErrName}, {"Zone A 0 - GMT 1990\n16 - GMT\n", "", "", 0, api.InZones, 0, 1, api.ErrRange},
 		{mainText, "Zone D 0 - GMT\nShift R\n", backzoneText, 1, api.InZones, 0, 0, api.ErrKind}, {mainText, "Link X Y\n" + setR + "Zone D 0 - GMT\n", "", 1, api.InRules, 0, 0, api.ErrKind},
-		{mainText, "Shift R\nLink A D\n", backzoneText + "Link B X\n", 1, api.InShifts, 0, 0, api.ErrKind}, {mainText, "", backzoneText + "Zone X 16 - GMT\nLink B X\n", 2, api.InLinks, 0, 0, api.ErrKind},
+		{mainText, setQ, "", 1, api.InRules, 0, 0, api.ErrKind}, {mainText, "Shift R\nLink A D\n", backzoneText + "Link B X\n", 1, api.InShifts, 0, 0, api.ErrKind}, {mainText, "", backzoneText + "Zone X 16 - GMT\nLink B X\n", 2, api.InLinks, 0, 0, api.ErrKind},
 		{mainText, "", backzoneText + "Zone X 16 - GMT\n", 2, api.InZones, 1, 0, api.ErrRange}, {mainText + "Zone X 5 - %z\n", "Link X D\n", "Zone B 5 - +05\n", 2, 0, 0, 0, api.ErrKind},
 		{mainText + "Zone X 5 - %z\n", "Link D E\n", "Zone B 5 - +05\n", 2, 0, 0, 0, api.ErrKind}, {mainText + "Zone X 5 - %z\nZone Y 5 - +05\n", "", backzoneText, 2, 0, 0, 0, api.ErrKind},
 		{mainText, "Link B C\nLink D E\n", backzoneText, 1, api.InLinks, 1, 0, api.ErrName}, {mainText, "Link A B\n", backzoneText, 1, api.InLinks, 0, 0, api.ErrTwice},

@@ -25,7 +25,7 @@ func TestP10_1Parse(t *testing.T) {
 		"US 1918 1919 x Mar 1 0 0 S": api.ErrForm, "US 1918 1919 - Mar 1 0 0": api.ErrForm, "US 1918 1919 - Mar 1 0 0 S S": api.ErrForm, "": api.ErrForm,
 		"1x 1 m x Foo 1 0 0 S": api.ErrForm, "1x 1 m - Foo 1 0 0 S": api.ErrName, "US 1 m - Foo 1 0 0 S": api.ErrRange,
 		"US 1918 x - Mar 1 0 0 S": api.ErrWord, "US 01918 m - Mar 1 0 0 S": api.ErrForm, "US x m - Mar 1 0 0 S": api.ErrForm,
-		"US 1849 m - Mar 1 0 0 S": api.ErrRange, "US 2150 m - Mar 1 0 0 S": api.ErrRange, "US 1918 2150 - Mar 1 0 0 S": api.ErrRange,
+		"US 1849 m - Mar 1 0 0 S": api.ErrRange, "US 2150 m - Mar 1 0 0 S": api.ErrRange, "US 1918 2150 - Mar 1 0 0 S": api.ErrRange, "US 1918 9999 - Mar 1 0 0 S": api.ErrRange,
 		"US 1918 1x - Mar 1 0 0 S": api.ErrForm, "US 1918 0 - Mar 1 0 0 S": api.ErrForm, "US 1918 19180 - Ma 1 0 0 S": api.ErrForm,
 		"US 1918 m - Ma 32 0 0 S": api.ErrWord, "US 1918 m - Mar 32 168 0 S": api.ErrRange, "US 1918 m - Mar 0 0 0 S": api.ErrForm,
 		"US 1918 m - Mar S>=1 0 0 S": api.ErrWord, "US 1918 m - Mar 1 168 x S": api.ErrRange, "US 1918 m - Mar 1 x 168 S": api.ErrForm,

@@ -142,6 +142,7 @@ func TestP16_3Lists(t *testing.T) {
 		{[]api.Rule{rule(1980, ever, 3, 0), rule(1980, ever, 4, 3600), rule(1980, ever, 5, 0)}, 0, api.ErrLast},
 		{[]api.Rule{rule(1980, ever, 3, 0), on(rule(1980, ever, 2, 3600), feb)}, 1, api.ErrRange}, {[]api.Rule{rule(1980, ever, 3, 0), on(rule(1980, ever, 4, 3600), api.Day{Kind: api.DayFixed, Day: 29})}, 0, api.OK},
 		{[]api.Rule{rule(1980, ever, 3, -3600), rule(1980, ever, 4, 3600)}, 0, api.ErrSave},
+		{[]api.Rule{rule(1980, 1980, 3, 0), rule(1980, 1980, 4, -api.MaxSave)}, 0, api.OK}, {[]api.Rule{rule(1980, 1980, 3, 0), rule(1980, 1980, 4, api.MaxSave)}, 0, api.OK}, {[]api.Rule{on(rule(1980, ever, 3, 0), feb), rule(1980, ever, 2, 3600)}, 0, api.OK},
 	} {
 		expect(t, x.l, x.i, x.of)
 	}

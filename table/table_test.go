@@ -57,7 +57,7 @@ func TestP40_1Check(t *testing.T) {
 		{func(x *api.Table) {}, api.OK}, {func(x *api.Table) { x.Types = nil }, api.ErrNone}, {func(x *api.Table) { x.Types = append(x.Types, api.Local{Abbr: "UTC"}) }, api.ErrNone},
 		{func(x *api.Table) { x.Types = append(x.Types, gmt) }, api.ErrTwice}, {func(x *api.Table) { x.Types[0].Off = api.MaxOff + 1 }, api.ErrRange}, {func(x *api.Table) { x.Types[1].Off = -1 << 63 }, api.ErrRange},
 		{func(x *api.Table) { x.Types[1].Off = api.MaxOff }, api.OK}, {func(x *api.Table) { x.Types[1].Off = -api.MaxOff }, api.OK}, {func(x *api.Table) { x.Types[1].Abbr = "GM" }, api.ErrFormat},
-		{func(x *api.Table) { x.Types[1].Abbr = "G_T" }, api.ErrFormat}, {func(x *api.Table) { x.Types[1].Abbr = "ABCDEFGH" }, api.ErrFormat}, {func(x *api.Table) { x.Types[1].Abbr = "Az0+-9G" }, api.OK},
+		{func(x *api.Table) { x.Types[1].Abbr = "G_T" }, api.ErrFormat}, {func(x *api.Table) { x.Types[1].Abbr = "ABCDEFGH" }, api.ErrFormat}, {func(x *api.Table) { x.Types[1].Abbr = "Az0+-9G" }, api.OK}, {func(x *api.Table) { x.Types[1].Abbr = "aAzZ" }, api.OK},
 		{func(x *api.Table) { x.Types[1].Abbr = "" }, api.ErrFormat}, {func(x *api.Table) { x.Types[1].Abbr = "éa" }, api.ErrFormat}, {func(x *api.Table) { x.Trans = trans(100, 0) }, api.ErrArg},
 		{func(x *api.Table) { x.Trans = trans(100, 2) }, api.ErrArg}, {func(x *api.Table) { x.Trans = trans(100, -1) }, api.ErrArg}, {func(x *api.Table) { x.Trans = trans(200, 1, 200, 0) }, api.ErrOrder},
 		{func(x *api.Table) { x.Trans = trans(200, 1, 100, 0) }, api.ErrOrder}, {func(x *api.Table) { x.Trans = trans(100, 1, 200, 1) }, api.ErrArg}, {func(x *api.Table) { x.Trans = trans(api.MaxTime+1, 1) }, api.ErrRange},

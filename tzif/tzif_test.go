@@ -28,7 +28,7 @@ func central(footer string) api.Table {
 func TestP42_1Version(t *testing.T) {
 	for footer, want := range map[string]int{
 		"CET-1CEST,M3.5.0/-1,M10.5.0/3": 3, "CET-1CEST,M3.5.0/25,M10.5.0/3": 3, "CET-1CEST,M3.5.0/24,M10.5.0/3": 2, "CET-1CEST,M3.5.0,M10.5.0/24:59:59": 2, "CET-1CEST,M3.5.0,M10.5.0/25": 3,
-		"CET-1CEST,M3.5.0/0,M10.5.0/-0:00:01": 3, "CET-1": 2,
+		"CET-1CEST,M3.5.0/0,M10.5.0/-0:00:01": 3, "CET-1CEST,M3.5.0/0,M10.5.0/0": 2, "CET-1": 2,
 	} {
 		if n, e := Version(central(footer)); n != want || e != api.OK {
 			t.Error(footer, n, e)

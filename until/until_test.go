@@ -83,6 +83,7 @@ func TestP22_3Instant(t *testing.T) {
 		{api.Era{Off: api.MaxClock + 1}, nil, 0, api.ErrRange}, {api.Era{Off: least}, nil, 0, api.ErrRange}, {api.Era{Kind: api.Fixed, Save: api.MaxClock + 1}, nil, 0, api.ErrRange},
 		{api.Era{Kind: api.NoRules, Save: greatest}, nil, 0, api.ErrNone}, {api.Era{Off: 3600}, nil, 0, api.ErrNone}, {api.Era{Until: end(1968, 2, 30, 0, 0)}, nil, 0, api.ErrRange},
 		{api.Era{Off: api.MaxClock, Kind: api.Fixed, Save: api.MaxClock, Until: second(api.Wall)}, nil, 93600 - 2*api.MaxClock, api.OK},
+		{api.Era{Off: -api.MaxClock, Kind: api.Fixed, Save: -api.MaxClock, Until: second(api.Wall)}, nil, 93600 + 2*api.MaxClock, api.OK},
 		{api.Era{Kind: api.Named, Until: summer(api.Wall)}, set(api.MaxClock), june + 7200 - api.MaxClock, api.OK}, {api.Era{Kind: api.Named, Until: summer(api.Wall)}, set(api.MaxClock + 1), 0, api.ErrRange},
 		{api.Era{Kind: api.Named, Until: summer(api.Utc)}, set(least), 0, api.ErrRange}, {api.Era{Kind: api.Named, Until: second(api.Wall)}, set(greatest), 93600, api.OK},
 		{api.Era{Kind: api.Named, Until: second(api.Std)}, set(least), 93600, api.OK},

@@ -25,7 +25,7 @@ func TestP8_1Words(t *testing.T) {
 		s    string
 		want int
 	}{
-		{Line, "Rule", 1}, {Line, "z", 2}, {Line, "LI", 3}, {Line, "sHiFt", 4}, {Line, "s", 4}, {Month, "Jan", 1}, {Month, "ja", 1},
+		{Line, "Rule", 1}, {Line, "z", 2}, {Line, "Z", 2}, {Line, "LI", 3}, {Line, "sHiFt", 4}, {Line, "s", 4}, {Month, "Jan", 1}, {Month, "ja", 1},
 		{Month, "jun", 6}, {Month, "may", 5}, {Month, "D", 12}, {Month, "MAR", 3}, {Month, "S", 9}, {Week, "SUN", 0}, {Week, "th", 4},
 		{Week, "m", 1}, {Week, "sa", 6}, {To, "only", 1}, {To, "max", 2}, {To, "m", 2}, {To, "O", 1},
 	} {

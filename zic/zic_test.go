@@ -81,6 +81,18 @@ func TestP44_1Compile(t *testing.T) {
 	}
 }
 
+func TestP44_1Horizon(t *testing.T) {
+	// The last year is 1973; changes up to February 1, 1974, 0:00 universal time, count.
+	for date, want := range map[string]int{"Feb 1 0:00u": 6, "Feb 1 0:00:01u": 5, "Jan 31 23:59:59u": 6, "Jan 15 0:00": 6, "Feb 2 0:00u": 5} {
+		text := "Rule R 1972 max - " + date + " 1:00 -\nRule R 1972 max - Jul 15 0:00 0 -\nZone A 0 - LMT 1970\n0 R ABC/DEF\n"
+		x := compile(t, read(t, text), "A")
+		// One at the end of the first era, and two in each of the years 1972 and 1973.
+		if len(x.Trans) != want {
+			t.Error(date, len(x.Trans), x)
+		}
+	}
+}
+
 // localAt returns the local time of a table, as P44.2 says it.
 func localAt(x api.Table, n int64) api.Local {
 	i := sort.Search(len(x.Trans), func(i int) bool { return x.Trans[i].At > n })
