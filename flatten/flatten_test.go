@@ -4,6 +4,7 @@ import (
 	"math/rand"
 	"reflect"
 	"slices"
+	"strconv"
 	"strings"
 	"testing"
 
@@ -50,6 +51,27 @@ func TestP35_1Links(t *testing.T) {
 	s.Zones[0].Name = "-"
 	if got, e := Links(s); !reflect.DeepEqual(got, api.Source{}) || e != api.ErrName {
 		t.Error(got, e)
+	}
+}
+
+func TestLongChains(t *testing.T) {
+	const n = 20000
+	s := api.Source{Zones: []api.Zone{{Name: "A"}}}
+	last := "A"
+	for i := range n {
+		name := "L" + strconv.Itoa(i)
+		s.Links = append(s.Links, api.Link{Target: last, Name: name})
+		last = name
+	}
+	slices.Reverse(s.Links)
+	got, e := Links(s)
+	if len(got.Links) != n || e != api.OK {
+		t.Fatal(len(got.Links), e)
+	}
+	for _, l := range got.Links {
+		if l.Target != "A" {
+			t.Fatal(l)
+		}
 	}
 }
 
