@@ -68,7 +68,7 @@ func TestP25_1Texts(t *testing.T) {
 		{with("1:00 R", "14:30 R"), api.InZones, 0, 1, api.ErrRange}, {with("1:00 R", "14:00 R"), 0, 0, 0, api.OK}, {with("1:00 R", "15:00:01 R"), api.InZones, 0, 1, api.ErrRange},
 		{with("1:00 R", "-15:00 R"), 0, 0, 0, api.OK}, {with("1:00 R", "-15:30 R"), api.InZones, 0, 1, api.ErrRange}, {with("1:00 R", "-14:30 R", "1:00 S", "-1:00 S"), api.InZones, 0, 1, api.ErrRange},
 		{with("1:00 - LMT", "14:00 1:00 LMT"), 0, 0, 0, api.OK}, {with("1:00 - LMT", "14:00 1:00:01 LMT"), api.InZones, 0, 0, api.ErrRange},
-		{with("1:00 - LMT", "0 3:00 LMT"), 0, 0, 0, api.OK}, {with("1:00 - LMT", "0 3:00:01 LMT"), api.InZones, 0, 0, api.ErrSave}, {with("1:00 - LMT", "16 0 LMT"), api.InZones, 0, 0, api.ErrSave},
+		{with("1:00 - LMT", "0 3:00 LMT"), 0, 0, 0, api.OK}, {with("1:00 - LMT", "0 0:00:01 LMT"), 0, 0, 0, api.OK}, {with("1:00 - LMT", "0 3:00:01 LMT"), api.InZones, 0, 0, api.ErrSave}, {with("1:00 - LMT", "16 0 LMT"), api.InZones, 0, 0, api.ErrSave},
 		{with("1:00 - LMT", "0 -1:00 LMT"), api.InZones, 0, 0, api.ErrSave}, {with("1:00 - LMT", "16 - L"), api.InZones, 0, 0, api.ErrRange},
 		{with("LMT", "L"), api.InZones, 0, 0, api.ErrFormat}, {with("CET/CEST", "CE%sT"), 0, 0, 0, api.OK}, {with("CET/CEST", "C%sT"), api.InZones, 0, 1, api.ErrFormat},
 		{with("CET/CEST", "+01"), api.InZones, 0, 1, api.ErrFormat}, {with("CET/CEST", "+01/+02"), 0, 0, 0, api.OK}, {with("LMT", "+01"), 0, 0, 0, api.OK}, {with("LMT", "+02"), api.InZones, 0, 0, api.ErrFormat},
@@ -152,6 +152,7 @@ func TestP25_1Crowded(t *testing.T) {
 	// 50 abbreviations of 4 letters are 250 bytes.
 	expect(t, "50 of 4", read(t, crowd(50, letters(4))), 0, 0, 0, api.OK)
 	expect(t, "51 of 4", read(t, crowd(51, letters(4))), api.InZones, 1, 0, api.ErrMany)
+	expect(t, "251 bytes", read(t, strings.Replace(crowd(50, letters(4)), "AAAA", "AAAAA", 1)), api.InZones, 1, 0, api.ErrMany)
 	expect(t, "60 of 3", read(t, crowd(60, letters(3))), 0, 0, 0, api.OK)
 	expect(t, "36 of 6", read(t, crowd(36, letters(6))), api.InZones, 1, 0, api.ErrMany)
 	// Pairs: one for each rule and era of a Named era.
